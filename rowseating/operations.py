@@ -1,7 +1,7 @@
 """The operations, each answering a list of numbers, and the table that finds them by number."""
 
-from rowseating.runs import find_runs, find_tightest_run
-from rowseating.seating import find_places, is_seatable
+from rowseating.runs import find_longest_run, find_runs, find_tightest_run
+from rowseating.seating import count_people, find_fullest_set, find_places, is_seatable, needed_in_one_run
 from rowseating.state import Planner
 
 NO_PLANNER = -11
@@ -82,11 +82,9 @@ def seat_groups(planner, group_set):
     places = find_places(find_runs(planner), planner.sizes, planner.gap, group_set)
     if places is None:
         return [NO_ROOM]
-    people = 0
+    people = count_people(planner.sizes, group_set)
     for place in places:
-        size = planner.sizes[place.group]
-        planner.take(place.row, place.first, size)
-        people += size
+        planner.take(place.row, place.first, planner.sizes[place.group])
     planner.remove_groups(group_set)
     return [people]
 
@@ -129,6 +127,77 @@ def seating_plan(planner, group_set):
     return answer
 
 
+def max_seated(planner):
+    group_set = find_fullest_set(find_runs(planner), planner.sizes, planner.gap)
+    return [count_people(planner.sizes, group_set), group_set]
+
+
+def isolated_seats(planner):
+    return [len([run for run in find_runs(planner) if run.length == 1])]
+
+
+def longest_run(planner):
+    run = find_longest_run(find_runs(planner))
+    if run is None:
+        return [NO_ROOM]
+    return [run.length, run.row, run.first]
+
+
+def tightest_run(planner, size):
+    if is_outside(size, 1, GREATEST_PARTY_SIZE):
+        return [OUT_OF_RANGE]
+    run = find_tightest_run(find_runs(planner), size)
+    if run is None:
+        return [NO_ROOM]
+    return [run.row, run.first, run.length]
+
+
+def needed_seats(planner, group_set):
+    if not planner.has_groups(group_set):
+        return [OUT_OF_RANGE]
+    return [needed_in_one_run(planner.sizes, planner.gap, group_set)]
+
+
+def list_groups(planner):
+    return [len(planner.sizes)] + planner.sizes
+
+
+def list_taken_seats(planner):
+    return [planner.taken_count()] + planner.taken_indices()
+
+
+def max_seated_if_free(planner, row, seat):
+    if not planner.has_seat(row, seat):
+        return [NOT_THERE]
+    other = planner.twin()
+    other.vacate(row, seat)
+    return [max_seated(other)[0]]
+
+
+def max_seated_if_gap(planner, gap):
+    if is_outside(gap, 0, GREATEST_GAP):
+        return [OUT_OF_RANGE]
+    other = planner.twin()
+    other.gap = gap
+    return [max_seated(other)[0]]
+
+
+def take_seats(planner, row, first, count):
+    if not planner.has_seat(row, first):
+        return [NOT_THERE]
+    if is_outside(count, 1, planner.seats_per_row - first):
+        return [OUT_OF_RANGE]
+    for seat in range(first, first + count):
+        if planner.is_taken(row, seat):
+            return [ALREADY_SO]
+    planner.take(row, first, count)
+    return [planner.taken_count()]
+
+
+def get_state(planner):
+    return [planner.rows, planner.seats_per_row, planner.gap, planner.taken_count(), len(planner.sizes)]
+
+
 # By the number of the call: the operation, and how many numbers it is given.
 OPERATIONS = (
     (create, 3),
@@ -142,6 +211,17 @@ OPERATIONS = (
     (free_runs, 0),
     (can_seat, 1),
     (seating_plan, 1),
+    (max_seated, 0),
+    (isolated_seats, 0),
+    (longest_run, 0),
+    (tightest_run, 1),
+    (needed_seats, 1),
+    (list_groups, 0),
+    (list_taken_seats, 0),
+    (max_seated_if_free, 2),
+    (max_seated_if_gap, 1),
+    (take_seats, 3),
+    (get_state, 0),
 )
 CREATE = 0
 
@@ -161,4 +241,6 @@ def perform(session, number, arguments):
         return operation(session.planner)
     if len(arguments) == 1:
         return operation(session.planner, arguments[0])
-    return operation(session.planner, arguments[0], arguments[1])
+    if len(arguments) == 2:
+        return operation(session.planner, arguments[0], arguments[1])
+    return operation(session.planner, arguments[0], arguments[1], arguments[2])

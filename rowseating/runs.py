@@ -30,6 +30,15 @@ def find_runs_in_row(planner, row):
     return runs
 
 
+# The first of the longest runs, or None.
+def find_longest_run(runs):
+    longest = None
+    for run in runs:
+        if longest is None or run.length > longest.length:
+            longest = run
+    return longest
+
+
 # The first of the shortest runs with enough seats, or None.
 def find_tightest_run(runs, size):
     tightest = None

@@ -1,4 +1,4 @@
-"""Which group sets can be seated in given runs, and the seating plan."""
+"""Which group sets can be seated in given runs, the one with the most people, and the seating plan."""
 
 
 class Place:
@@ -13,11 +13,14 @@ def members(group_set):
     return [group for group in range(group_set.bit_length()) if (group_set >> group) & 1 == 1]
 
 
+def count_people(sizes, group_set):
+    return sum([sizes[group] for group in members(group_set)])
+
+
 def needed_in_one_run(sizes, gap, group_set):
-    people = [sizes[group] for group in members(group_set)]
-    if len(people) == 0:
+    if group_set == 0:
         return 0
-    return sum(people) + (len(people) - 1) * gap
+    return count_people(sizes, group_set) + (len(members(group_set)) - 1) * gap
 
 
 # The greatest part of the set that the run has seats for while the rest can be seated later, or None.
@@ -44,6 +47,15 @@ def parts_by_run(runs, sizes, gap):
 
 def is_seatable(runs, sizes, gap, group_set):
     return parts_by_run(runs, sizes, gap)[0][group_set] is not None
+
+
+# Of the sets that can be seated, the one with the most people; of several such, the smallest bit mask.
+def find_fullest_set(runs, sizes, gap):
+    fullest = 0
+    for group_set, part in enumerate(parts_by_run(runs, sizes, gap)[0]):
+        if part is not None and count_people(sizes, group_set) > count_people(sizes, fullest):
+            fullest = group_set
+    return fullest
 
 
 # The places of the seating plan in the order of group numbers, or None if the set can't be seated.

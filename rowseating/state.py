@@ -34,6 +34,17 @@ class Planner:
     def taken_count(self):
         return self.taken.count(True)
 
+    # The seat indices in increasing order.
+    def taken_indices(self):
+        return [index for index, taken in enumerate(self.taken) if taken]
+
+    # What would be is tried on a twin, so that this planner stays as it is at every moment.
+    def twin(self):
+        other = Planner(self.rows, self.seats_per_row, self.gap)
+        other.taken = list(self.taken)
+        other.sizes = list(self.sizes)
+        return other
+
     def has_groups(self, group_set):
         return group_set < (1 << len(self.sizes))
 

@@ -19,6 +19,17 @@ NUMBERS = {
     "free_runs": 8,
     "can_seat": 9,
     "seating_plan": 10,
+    "max_seated": 11,
+    "isolated_seats": 12,
+    "longest_run": 13,
+    "tightest_run": 14,
+    "needed_seats": 15,
+    "list_groups": 16,
+    "list_taken_seats": 17,
+    "max_seated_if_free": 18,
+    "max_seated_if_gap": 19,
+    "take_seats": 20,
+    "get_state": 21,
 }
 
 GREATEST = 4294967295
@@ -71,12 +82,19 @@ def last(calls):
     return ask(calls)[-1]
 
 
+def hall(rows, seats_per_row, gap, sizes, taken=()):
+    calls = [("create", rows, seats_per_row, gap)]
+    calls += [("take_seat", row, seat) for row, seat in taken]
+    return calls + [("add_group", size) for size in sizes]
+
+
 def look(rows, seats_per_row):
     """Calls whose answers show the whole state: the free seats, the gap, and each group's size.
 
-    The rows must be as long as the longest group, so that each is seated in its turn.
+    They show it twice, as it is told and as it is used. The rows must be as long as the longest group, so that
+    each is seated in its turn.
     """
-    calls = [("free_runs",), ("set_gap", 0)]
+    calls = [("get_state",), ("list_groups",), ("list_taken_seats",), ("free_runs",), ("set_gap", 0)]
     for turn in range(5):
         calls += [("free_seat", row, seat) for row in range(rows) for seat in range(seats_per_row)]
         calls.append(("seat_groups", 1))
@@ -125,6 +143,18 @@ def fits(lengths, sizes, gap, groups):
         if all(needed(sizes, gap, share) <= length for share, length in zip(shares, lengths)):
             return True
     return False
+
+
+def most_seated(runs, sizes, gap):
+    """The most people of a set that can be seated, and the smallest set of so many, by trying every set."""
+    lengths = [run[2] for run in runs]
+    tried = []
+    for mask in range(1 << len(sizes)):
+        groups = members(mask)
+        tried.append((-sum(sizes[group] for group in groups), mask, groups))
+    for fewer, mask, groups in sorted(tried):
+        if fits(lengths, sizes, gap, groups):
+            return [-fewer, mask]
 
 
 def plan(runs, sizes, gap, group_set):

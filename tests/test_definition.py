@@ -14,7 +14,10 @@ from tests.helper import (
     ask,
     can_sit,
     fits,
+    hall as calls_of_hall,
     members,
+    most_seated,
+    needed,
     plan,
     runs_of,
 )
@@ -28,20 +31,23 @@ class Hall:
     """One hall with its waiting groups, and what the program answers for it."""
 
     def __init__(self, rows, seats_per_row, gap, taken, sizes):
+        self.rows = rows
+        self.seats_per_row = seats_per_row
         self.gap = gap
         self.sizes = sizes
         self.taken = set(taken)
         self.runs = runs_of(rows, seats_per_row, self.taken)
-        self.calls = [("create", rows, seats_per_row, gap)]
-        self.calls += [("take_seat", row, seat) for row, seat in sorted(self.taken)]
-        self.calls += [("add_group", size) for size in sizes]
+        self.calls = calls_of_hall(rows, seats_per_row, gap, sizes, sorted(self.taken))
         self.sets = range(1 << len(sizes))
 
     def __repr__(self):
         return f"gap {self.gap}, sizes {self.sizes}, runs {self.runs}"
 
+    def told(self, calls):
+        return ask(self.calls + calls)[len(self.calls):]
+
     def answers_for_each_set(self, name):
-        return ask(self.calls + [(name, mask) for mask in self.sets])[len(self.calls):]
+        return self.told([(name, mask) for mask in self.sets])
 
     def planned(self, mask):
         return [number for place in plan(self.runs, self.sizes, self.gap, mask) for number in place]
@@ -101,7 +107,65 @@ class Definitions(unittest.TestCase):
                 self.assertEqual(seated[mask], [int(found)], (hall, mask))
 
 
+class MostSeated(unittest.TestCase):
+    """max_seated and its two questions of what would be, by trying every set and every distribution."""
+
+    def held(self, hall):
+        most = most_seated(hall.runs, hall.sizes, hall.gap)
+        self.assertEqual(hall.told([("max_seated",)]), [most], hall)
+        for gap in range(3):
+            told = hall.told([("max_seated_if_gap", gap), ("max_seated",), ("set_gap", gap), ("max_seated",)])
+            with_gap = most_seated(hall.runs, hall.sizes, gap)
+            self.assertEqual(told, [with_gap[:1], most, [hall.gap], with_gap], (hall, gap))
+
+    def held_for_each_seat(self, hall):
+        for row, seat in itertools.product(range(hall.rows), range(hall.seats_per_row)):
+            runs = runs_of(hall.rows, hall.seats_per_row, hall.taken - {(row, seat)})
+            if_free = most_seated(runs, hall.sizes, hall.gap)
+            told = hall.told([("max_seated_if_free", row, seat), ("free_seat", row, seat), ("max_seated",)])
+            self.assertEqual([told[0], told[2]], [if_free[:1], if_free], (hall, row, seat))
+
+    def test_short_halls(self):
+        for hall in short_halls():
+            self.held(hall)
+            self.held_for_each_seat(hall)
+
+    def test_long_halls(self):
+        for number, hall in enumerate(long_halls()):
+            self.held(hall)
+            if number % 10 == 0:
+                self.held_for_each_seat(hall)
+
+    def test_every_sequence_of_small_groups(self):
+        # So that many sets have the same number of people, in one row and in two.
+        for sizes in itertools.product((1, 2, 3), repeat=4):
+            for rows, seats_per_row, taken in [(1, 6, []), (2, 4, [(0, 3)])]:
+                hall = Hall(rows, seats_per_row, sum(sizes) % 3, taken, list(sizes))
+                self.assertEqual(hall.told([("max_seated",)]), [most_seated(hall.runs, hall.sizes, hall.gap)], hall)
+
+    def test_needed_seats(self):
+        for hall in long_halls():
+            told = hall.answers_for_each_set("needed_seats")
+            self.assertEqual(told, [[needed(hall.sizes, hall.gap, members(mask))] for mask in hall.sets], hall)
+
+
 class Requirements(unittest.TestCase):
+    def test_no_set_that_can_be_seated_has_more_people(self):
+        for hall in long_halls():
+            seated = hall.answers_for_each_set("can_seat")
+            people = [sum(hall.sizes[group] for group in members(mask)) for mask in hall.sets]
+            most, chosen = hall.told([("max_seated",)])[0]
+            self.assertEqual((seated[chosen], people[chosen]), ([1], most), hall)
+            for mask in hall.sets:
+                if seated[mask] == [1]:
+                    # More people, or as many with a smaller mask, would have been the answer.
+                    self.assertLessEqual((-most, chosen), (-people[mask], mask), hall)
+
+    def test_a_smaller_gap_seats_no_fewer_people(self):
+        for hall in long_halls():
+            told = hall.told([("max_seated_if_gap", gap) for gap in range(3)])
+            self.assertEqual(told, sorted(told, reverse=True), hall)
+
     def test_a_seating_plan_is_an_assignment(self):
         for hall in long_halls():
             for mask, answer in zip(hall.sets, hall.answers_for_each_set("seating_plan")):
@@ -264,6 +328,58 @@ class Model:
         runs = self.runs()
         return [len(runs)] + [number for run in runs for number in run]
 
+    def max_seated(self):
+        return most_seated(self.runs(), self.sizes, self.gap)
+
+    def isolated_seats(self):
+        return [lengths_of(self.runs()).count(1)]
+
+    def longest_run(self):
+        ordered = sorted((-length, row, first) for row, first, length in self.runs())
+        return [-ordered[0][0], ordered[0][1], ordered[0][2]] if ordered else NO_ROOM
+
+    def tightest_run(self, size):
+        if size not in range(1, 11):
+            return OUT_OF_RANGE
+        ordered = sorted((length, row, first) for row, first, length in self.runs() if length >= size)
+        return [ordered[0][1], ordered[0][2], ordered[0][0]] if ordered else NO_ROOM
+
+    def needed_seats(self, group_set):
+        if group_set not in range(2 ** len(self.sizes)):
+            return OUT_OF_RANGE
+        return [needed(self.sizes, self.gap, members(group_set))]
+
+    def list_groups(self):
+        return [len(self.sizes)] + self.sizes
+
+    def list_taken_seats(self):
+        return [len(self.taken)] + sorted(row * self.seats_per_row + seat for row, seat in self.taken)
+
+    def max_seated_if_free(self, row, seat):
+        if not self.is_there(row, seat):
+            return NOT_THERE
+        runs = runs_of(self.rows, self.seats_per_row, self.taken - {(row, seat)})
+        return most_seated(runs, self.sizes, self.gap)[:1]
+
+    def max_seated_if_gap(self, gap):
+        if gap not in range(3):
+            return OUT_OF_RANGE
+        return most_seated(self.runs(), self.sizes, gap)[:1]
+
+    def take_seats(self, row, first, count):
+        if not self.is_there(row, first):
+            return NOT_THERE
+        if count == 0 or first + count > self.seats_per_row:
+            return OUT_OF_RANGE
+        seats = {(row, seat) for seat in range(first, first + count)}
+        if seats & self.taken:
+            return ALREADY_SO
+        self.taken |= seats
+        return [len(self.taken)]
+
+    def get_state(self):
+        return [self.rows, self.seats_per_row, self.gap, len(self.taken), len(self.sizes)]
+
 
 # How often each operation comes, and how far its numbers go: now and then a little too far.
 USUAL = (
@@ -274,7 +390,11 @@ USUAL = (
     + [("seat_groups", 31)] * 2
     + [("can_seat", 31)] * 2
     + [("seating_plan", 31)] * 4
+    + [("max_seated",), ("max_seated_if_free", 3, 10), ("max_seated_if_gap", 3), ("needed_seats", 31)]
+    + [("isolated_seats",), ("longest_run",), ("tightest_run", 11), ("take_seats", 3, 10, 4)]
+    + [("list_groups",), ("list_taken_seats",), ("get_state",)]
 )
+SET_TAKERS = ("seat_groups", "can_seat", "seating_plan", "needed_seats")
 
 
 def drawn_call(draw):
@@ -284,21 +404,36 @@ def drawn_call(draw):
     call = [name] + [draw.randint(0, top) for top in tops]
     if tops and draw.random() < 0.05:
         call[draw.randint(1, len(tops))] = draw.choice(FAR)
-    if name in ("seat_groups", "can_seat", "seating_plan") and draw.random() < 0.4:
+    if name in SET_TAKERS and draw.random() < 0.4:
         call[1] = draw.choice([1, 2, 3, 7])
     return tuple(call)
 
 
 class Sessions(unittest.TestCase):
+    def held(self, calls, turn):
+        self.assertEqual(len(calls), 256)
+        model = Model()
+        for number, (call, told) in enumerate(zip(calls, ask(calls))):
+            self.assertEqual(told, model.told(call), (turn, number, call))
+
     def test_long_sessions_are_answered_as_by_the_model(self):
         draw = random.Random(6)
         for turn in range(60):
             calls = [drawn_call(draw)]
             calls.append(("create", draw.randint(1, 3), draw.randint(3, 10), draw.randint(0, 2)))
             calls += [drawn_call(draw) for call in range(254)]
-            model = Model()
-            for number, (call, told) in enumerate(zip(calls, ask(calls))):
-                self.assertEqual(told, model.told(call), (turn, number, call))
+            self.held(calls, turn)
+
+    def test_long_sessions_of_the_greatest_hall_with_five_groups(self):
+        draw = random.Random(21)
+        for turn in range(3):
+            calls = [("create", 3, 10, turn)] + [("add_group", draw.randint(1, 6)) for group in range(5)]
+            while len(calls) < 256:
+                call = drawn_call(draw)
+                if call[0] not in ("create", "remove_group", "seat_groups"):
+                    calls.append(call)
+            self.held(calls, turn)
+            self.assertEqual(ask(calls[:-1] + [("get_state",)])[-1][4], 5)
 
 
 if __name__ == "__main__":

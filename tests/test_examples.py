@@ -1,4 +1,4 @@
-"""The examples of the document, as far as their calls are there."""
+"""The examples of the document, block by block."""
 
 import unittest
 
@@ -9,16 +9,23 @@ GROUPS = [
     (("add_group", 3), [0]),
     (("add_group", 2), [1]),
     (("add_group", 2), [2]),
+    (("needed_seats", 3), [6]),
     (("can_seat", 3), [1]),
     (("can_seat", 7), [0]),
+    (("max_seated",), [5, 3]),
     (("seating_plan", 3), [2, 0, 0, 0, 4]),
     (("seat_groups", 3), [5]),
     (("free_runs",), [2, 0, 3, 1, 0, 6, 1]),
+    (("list_groups",), [1, 2]),
 ]
 PARTIES = [
     (("create", 1, 7, 1), [0]),
     (("take_seat", 0, 2), [1]),
+    (("tightest_run", 2), [0, 0, 2]),
     (("place_party", 2), [0, 0]),
+    (("longest_run",), [4, 0, 3]),
+    (("isolated_seats",), [0]),
+    (("take_seats", 0, 3, 2), [5]),
 ]
 ERRORS = [
     (("create", 1, 3, 0), [0]),
@@ -27,6 +34,7 @@ ERRORS = [
     (("free_seat", 0, 1), [-17]),
     (("seat_groups", 1), [-22]),
     (("place_party", 3), [-33]),
+    (("take_seats", 0, 2, 2), [-22]),
 ]
 
 

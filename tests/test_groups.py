@@ -1,9 +1,9 @@
-"""add_group, remove_group and set_gap."""
+"""add_group, remove_group, set_gap, needed_seats and list_groups."""
 
 import itertools
 import unittest
 
-from tests.helper import FAR, NOT_THERE, OUT_OF_RANGE, TOO_MANY_GROUPS, ask, last, looked_at
+from tests.helper import FAR, NOT_THERE, OUT_OF_RANGE, TOO_MANY_GROUPS, ask, hall, last, looked_at
 
 HALL = ("create", 2, 6, 1)
 
@@ -115,6 +115,87 @@ class SetGap(unittest.TestCase):
         before = [HALL, ("take_seat", 0, 2)] + adding([3, 1, 6])
         for gap in (3,) + FAR:
             self.assertEqual(looked_at(before + [("set_gap", gap)], 2, 6), looked_at(before, 2, 6))
+
+
+class NeededSeats(unittest.TestCase):
+    def needed(self, gap, sizes, mask):
+        return last(hall(3, 10, gap, sizes) + [("needed_seats", mask)])
+
+    def test_the_empty_set(self):
+        for gap in range(3):
+            self.assertEqual(self.needed(gap, [], 0), [0])
+            self.assertEqual(self.needed(gap, [6], 0), [0])
+            self.assertEqual(self.needed(gap, [1, 2, 3, 4, 5], 0), [0])
+
+    def test_one_group_needs_no_gap(self):
+        for gap in range(3):
+            for size in range(1, 7):
+                self.assertEqual(self.needed(gap, [size], 1), [size])
+            for group, size in enumerate([5, 1, 4, 2, 3]):
+                self.assertEqual(self.needed(gap, [5, 1, 4, 2, 3], 1 << group), [size])
+
+    def test_several_groups_with_a_gap_between_two(self):
+        for gap, two, three, five in [(0, 8, 9, 19), (1, 9, 11, 23), (2, 10, 13, 27)]:
+            sizes = [3, 5, 1, 6, 4]
+            self.assertEqual(self.needed(gap, sizes, 3), [two])
+            self.assertEqual(self.needed(gap, sizes, 7), [three])
+            self.assertEqual(self.needed(gap, sizes, 31), [five])
+        self.assertEqual(self.needed(1, [3, 5, 1, 6, 4], 17), [8])
+        self.assertEqual(self.needed(2, [3, 5, 1, 6, 4], 26), [19])
+
+    def test_every_set(self):
+        sizes = [2, 6, 1, 3, 5]
+        for gap in range(3):
+            told = ask(hall(3, 10, gap, sizes) + [("needed_seats", mask) for mask in range(32)])[-32:]
+            for mask, answer in enumerate(told):
+                groups = [size for group, size in enumerate(sizes) if mask >> group & 1]
+                self.assertEqual(answer, [sum(groups) + gap * len(groups[1:])], (gap, mask))
+
+    def test_it_may_be_more_than_there_are_seats(self):
+        self.assertEqual(self.needed(2, [6] * 5, 31), [38])
+        self.assertEqual(last(hall(1, 1, 2, [6, 6], [(0, 0)]) + [("needed_seats", 3)]), [14])
+
+    def test_the_gap_is_the_one_that_was_set(self):
+        calls = hall(1, 7, 1, [2, 3])
+        told = ask(calls + [call for gap in (2, 0, 1) for call in [("set_gap", gap), ("needed_seats", 3)]])
+        self.assertEqual(told[4::2], [[7], [5], [6]])
+
+    def test_a_set_with_a_group_that_is_not_there(self):
+        for count in range(6):
+            for mask in (1 << count, (1 << count) + 1, 32, 33, 64) + FAR[1:]:
+                self.assertEqual(self.needed(1, [1] * count, mask), OUT_OF_RANGE, (count, mask))
+
+    def test_it_changes_nothing(self):
+        before = [HALL, ("take_seat", 0, 2)] + adding([3, 1, 6])
+        for mask in (0, 3, 7, 8, FAR[-1]):
+            self.assertEqual(looked_at(before + [("needed_seats", mask)] * 2, 2, 6), looked_at(before, 2, 6))
+
+
+class ListGroups(unittest.TestCase):
+    def test_none(self):
+        self.assertEqual(last([HALL, ("list_groups",)]), [0])
+        self.assertEqual(last([HALL, ("add_group", 4), ("remove_group", 0), ("list_groups",)]), [0])
+
+    def test_sizes_in_the_order_in_which_they_were_added(self):
+        sizes = [3, 1, 6, 2, 2]
+        for count in range(6):
+            self.assertEqual(last([HALL] + adding(sizes[:count]) + [("list_groups",)]), [count] + sizes[:count])
+
+    def test_after_groups_have_gone(self):
+        calls = [HALL] + adding([5, 1, 4, 2, 3])
+        self.assertEqual(last(calls + [("remove_group", 1), ("list_groups",)]), [4, 5, 4, 2, 3])
+        self.assertEqual(last(calls + [("remove_group", 4), ("list_groups",)]), [4, 5, 1, 4, 2])
+        self.assertEqual(last(calls + [("seat_groups", 10), ("list_groups",)]), [3, 5, 4, 3])
+        self.assertEqual(last(calls + [("seat_groups", 9), ("add_group", 6), ("list_groups",)]), [4, 1, 4, 3, 6])
+
+    def test_after_errors(self):
+        calls = [HALL] + adding([6, 6, 6])
+        for call in [("add_group", 7), ("add_group", 0), ("remove_group", 3), ("seat_groups", 7), ("seat_groups", 8)]:
+            self.assertEqual(last(calls + [call, ("list_groups",)]), [3, 6, 6, 6])
+
+    def test_it_changes_nothing(self):
+        before = [HALL, ("take_seat", 0, 2)] + adding([3, 1, 6])
+        self.assertEqual(looked_at(before + [("list_groups",)] * 2, 2, 6), looked_at(before, 2, 6))
 
 
 if __name__ == "__main__":

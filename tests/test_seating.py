@@ -2,13 +2,7 @@
 
 import unittest
 
-from tests.helper import FAR, NO_ROOM, OUT_OF_RANGE, ask, last, looked_at, waiting_sizes
-
-
-def hall(rows, seats_per_row, gap, sizes, taken=()):
-    calls = [("create", rows, seats_per_row, gap)]
-    calls += [("take_seat", row, seat) for row, seat in taken]
-    return calls + [("add_group", size) for size in sizes]
+from tests.helper import FAR, NO_ROOM, OUT_OF_RANGE, ask, hall, last, looked_at, waiting_sizes
 
 
 class CanSeat(unittest.TestCase):
